@@ -1,0 +1,1 @@
+"""A vector machine whose computations can be stopped, written as checkpoints and continued elsewhere."""
