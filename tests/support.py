@@ -36,9 +36,31 @@ def load(components, content, n=None):
     return [3, 2 + len(content), n, components] + content + [0]
 
 
+def turn(content, components, form=0, room=4096, n=None):
+    content = list(content)
+    n = len(content) if n is None else n
+    return [4, 4 + len(content), n, room, form, components] + content + [0]
+
+
+def peek(number):
+    return [5, 1, number, 0]
+
+
+def poke(number, content):
+    return [6, 1 + len(content), number] + list(content) + [0]
+
+
+def differ(first, second, n1=None, n2=None):
+    both = list(first) + list(second)
+    n1 = len(first) if n1 is None else n1
+    n2 = len(second) if n2 is None else n2
+    return [7, 2 + len(both), n1, n2] + both + [0]
+
+
 def ask(*calls):
     """The answers, one list each; checks that every number belongs to one of them."""
     given = [number for call in calls for number in call]
+    assert len(calls) <= 60 and len(given) <= 30000, "more than one list may have"
     result = answers(given)
     found = []
     at = 0
@@ -116,6 +138,52 @@ class Registers:
         return list(content)
 
 
+def bytes_of(*words):
+    """Sixty-four bytes: the words, then zeros."""
+    content = struct.pack("<%dQ" % len(words), *words)
+    return list(content + bytes(64 - len(content)))
+
+
+def weight_of(number, lane):
+    """The weight of the component that a word of a register belongs to, by the numbers of peek and poke."""
+    if number >= 40:
+        return 32
+    if number >= 32:
+        return 1
+    return 128 if number >= 16 else (2, 4, 64, 64)[lane // 2]
+
+
+def held_words(held, number):
+    """The words of a register by the number that peek and poke use."""
+    if number < 32:
+        return held.v[number]
+    return [held.m[number - 32]] if number < 40 else [held.k[number - 40]]
+
+
+def hold_words(held, number, words):
+    """The registers with one of them changed; an M or K register takes one word."""
+    other = held.copy()
+    if number < 32:
+        other.v[number] = list(words)
+    elif number < 40:
+        other.m[number - 32], = words
+    else:
+        other.k[number - 40], = words
+    return other
+
+
+def all_forms(held):
+    """The short form and every long form of a state."""
+    return [held.short()] + [held.long(components) for components in MACHINES if fits(held.used(), components)]
+
+
+def changed(content, at, byte):
+    """The bytes with one of them replaced."""
+    other = list(content)
+    other[at] = byte
+    return other
+
+
 def registers_of(content):
     """The registers of a long form for the machine 231."""
     content = bytes(content)
@@ -152,8 +220,7 @@ def any_registers(seed, weights=231):
         found.k = [any_word(source) for _ in range(7)] + [source.getrandbits(64) | 1]
     for number in range(32):
         for lane in range(8):
-            weight = 128 if number >= 16 else (2, 4, 64, 64)[lane // 2]
-            if weights & weight:
+            if weights & weight_of(number, lane):
                 last = number in (15, 31) and lane in (1, 3, 7)
                 found.v[number][lane] = source.getrandbits(64) | 1 if last else any_word(source)
     assert found.used() == weights

@@ -4,6 +4,7 @@ These are the rules that a walk through the syntax can see; they hold for every 
 """
 
 import ast
+import builtins
 import pathlib
 import re
 import unittest
@@ -112,6 +113,22 @@ class Language(unittest.TestCase):
             self.assertEqual(used - bound - FREE_NAMES, set())
             values = {node.attr for node in ast.walk(tree) if isinstance(node, ast.Attribute)}
             self.assertEqual((bound | used | values) & UNUSED_NAMES, set())
+
+    def test_each_name_has_one_meaning(self):
+        for path, text, tree in self.each_file():
+            imported = [alias.name for node in tree.body if isinstance(node, ast.ImportFrom) for alias in node.names]
+            classes = [node.name for node in tree.body if isinstance(node, ast.ClassDef)]
+            top = imported + classes + [node.name for node in tree.body if isinstance(node, ast.FunctionDef)]
+            top += [target.id for node in tree.body if isinstance(node, ast.Assign) for target in node.targets]
+            self.assertEqual(len(top), len(set(top)), path.name)
+            inner = set()
+            for node in ast.walk(tree):
+                if isinstance(node, ast.FunctionDef):
+                    inner.update(part.arg for part in ast.walk(node) if isinstance(part, ast.arg))
+                    inner.update(part.id for part in ast.walk(node)
+                                 if isinstance(part, ast.Name) and isinstance(part.ctx, ast.Store))
+            self.assertEqual(inner & set(imported + classes), set(), path.name)
+            self.assertEqual((inner | set(top)) & set(dir(builtins)), set(), path.name)
 
     def test_imports_are_the_packages_own(self):
         for path, text, tree in self.each_file():

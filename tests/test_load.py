@@ -2,23 +2,12 @@
 
 import unittest
 
-from support import (MACHINES, USED, Registers, any_registers, ask, fits, load, new, number_source, registers_of, run,
-                     save)
-
-
-def changed(content, at, byte):
-    other = list(content)
-    other[at] = byte
-    return other
+from support import (MACHINES, USED, Registers, all_forms, any_registers, ask, changed, fits, load, new, number_source,
+                     registers_of, run, save)
 
 
 def with_word(content, at, word):
     return content[:at] + list(word.to_bytes(8, "little")) + content[at + 8:]
-
-
-def all_forms(held):
-    """The short form and every long form of a state."""
-    return [held.short()] + [held.long(components) for components in MACHINES if fits(held.used(), components)]
 
 
 class Forms(unittest.TestCase):

@@ -1,6 +1,7 @@
 """Checkpoints: a state written as bytes in the long or the short form, and read again."""
 
 from vectorpoints.state import State, WORD_COUNTS, component_words, put_component, weights_in_use
+from vectorpoints.words import word_bytes, words_at
 
 HEAD_LENGTH = 576
 SCALARS_AT = 32
@@ -15,26 +16,6 @@ TAIL_WEIGHTS = (4, 32, 64, 128)
 
 # The machine whose long form has this length.
 LONG_LENGTHS = {576: 3, 832: 7, 2688: 231}
-
-
-def word_bytes(words):
-    """The words as bytes, eight each, the lowest first."""
-    content = []
-    for word in words:
-        for place in range(0, 64, 8):
-            content.append((word >> place) & 255)
-    return content
-
-
-def words_at(content, at, count):
-    """So many words of the bytes, from an offset on."""
-    words = []
-    for first in range(at, at + 8 * count, 8):
-        word = 0
-        for byte in reversed(content[first:first + 8]):
-            word = word * 256 + byte
-        words.append(word)
-    return words
 
 
 def component_bytes(state, weight):

@@ -1,6 +1,6 @@
 """The interface: a list of calls on one new machine, and the list of their answers."""
 
-from vectorpoints.operations import Machine, load, new, run, save
+from vectorpoints.operations import Machine, differ, load, new, peek, poke, run, save, turn
 
 
 class NoSuchCall(ValueError):
@@ -17,6 +17,14 @@ def answer_of(machine, call, numbers):
         return save(machine, numbers)
     if call == 3:
         return load(machine, numbers)
+    if call == 4:
+        return turn(numbers)
+    if call == 5:
+        return peek(machine, numbers)
+    if call == 6:
+        return poke(machine, numbers)
+    if call == 7:
+        return differ(numbers)
     raise NoSuchCall("no such call")
 
 

@@ -1,4 +1,4 @@
-"""The operations. Each takes the machine and the call's numbers, and gives back its answer.
+"""The operations. Each takes the call's numbers, and the machine if it uses it, and gives back its answer.
 
 An error is answered by its code alone, before anything is changed.
 """
@@ -6,7 +6,9 @@ An error is answered by its code alone, before anything is changed.
 from vectorpoints.checkpoints import long_form, read_checkpoint, short_form
 from vectorpoints.execution import execute
 from vectorpoints.instructions import is_instruction, needed_components, split_code
-from vectorpoints.state import MACHINES, State, has_components, weights_in_use
+from vectorpoints.registers import REGISTER_COUNT, can_hold, put_register, register_words
+from vectorpoints.state import MACHINES, State, copy_state, different_weights, has_components, weights_in_use
+from vectorpoints.words import word_bytes, words_at
 
 OUT_OF_RANGE = -1
 BAD_BYTES = -2
@@ -55,17 +57,10 @@ def run(machine, numbers):
 
 def save(machine, numbers):
     """Operation 2. Numbers: room, form."""
-    room = numbers[0]
     form = numbers[1]
     if form > 1:
         return [OUT_OF_RANGE]
-    if form == 0:
-        content = long_form(machine.state, machine.components)
-    else:
-        content = short_form(machine.state)
-    if len(content) > room:
-        return [NO_ROOM]
-    return [len(content)] + content
+    return written_state(machine.state, machine.components, numbers[0], form)
 
 
 def load(machine, numbers):
@@ -73,9 +68,7 @@ def load(machine, numbers):
     components = numbers[1]
     if components not in MACHINES:
         return [OUT_OF_RANGE]
-    if numbers[0] > MOST_BYTES:
-        return [BAD_BYTES]
-    state = read_checkpoint(numbers[2:])
+    state = read_state(numbers[0], numbers[2:])
     if state is None:
         return [BAD_BYTES]
     if not has_components(components, weights_in_use(state)):
@@ -83,3 +76,78 @@ def load(machine, numbers):
     machine.components = components
     machine.state = state
     return [0]
+
+
+def turn(numbers):
+    """Operation 4, which needs no machine. Numbers: n, room, form, components, bytes."""
+    form = numbers[2]
+    components = numbers[3]
+    if form > 1 or components not in MACHINES:
+        return [OUT_OF_RANGE]
+    state = read_state(numbers[0], numbers[4:])
+    if state is None:
+        return [BAD_BYTES]
+    if not has_components(components, weights_in_use(state)):
+        return [NO_COMPONENT]
+    return written_state(state, components, numbers[1], form)
+
+
+def peek(machine, numbers):
+    """Operation 5. Numbers: the number of a register, or the one behind them for what is in use."""
+    number = numbers[0]
+    if number > REGISTER_COUNT:
+        return [OUT_OF_RANGE]
+    if number == REGISTER_COUNT:
+        words = [weights_in_use(machine.state), machine.components, 0, 0, 0, 0, 0, 0]
+    else:
+        words = register_words(machine.state, number)
+    return [0] + word_bytes(words)
+
+
+def poke(machine, numbers):
+    """Operation 6. Numbers: the number of a register, its 64 bytes."""
+    number = numbers[0]
+    if number >= REGISTER_COUNT:
+        return [OUT_OF_RANGE]
+    words = words_at(numbers, 1, 8)
+    if not can_hold(number, words):
+        return [BAD_BYTES]
+    # Which components would be in use is only seen in a state that has the words.
+    state = copy_state(machine.state)
+    put_register(state, number, words)
+    if not has_components(machine.components, weights_in_use(state)):
+        return [NO_COMPONENT]
+    machine.state = state
+    return [0]
+
+
+def differ(numbers):
+    """Operation 7, which needs no machine. Numbers: n1, n2, bytes1, bytes2."""
+    first = numbers[0]
+    second = numbers[1]
+    # A count that is too high has no bytes, and then does not tell where the second ones begin.
+    if first > MOST_BYTES or second > MOST_BYTES:
+        return [BAD_BYTES]
+    left = read_checkpoint(numbers[2:2 + first])
+    right = read_checkpoint(numbers[2 + first:])
+    if left is None or right is None:
+        return [BAD_BYTES]
+    return [different_weights(left, right)]
+
+
+def read_state(count, content):
+    """The state of a checkpoint of so many bytes, or None if it is not one."""
+    if count > MOST_BYTES:
+        return None
+    return read_checkpoint(content)
+
+
+def written_state(state, components, room, form):
+    """The answer that tells a checkpoint of the state, if there is room for it."""
+    if form == 0:
+        content = long_form(state, components)
+    else:
+        content = short_form(state)
+    if len(content) > room:
+        return [NO_ROOM]
+    return [len(content)] + content

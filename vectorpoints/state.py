@@ -67,6 +67,23 @@ def weights_in_use(state):
     return total
 
 
+def different_weights(left, right):
+    """The sum of the weights of the components in which two states differ."""
+    total = 0
+    for weight in WEIGHTS:
+        if component_words(left, weight) != component_words(right, weight):
+            total = total + weight
+    return total
+
+
+def copy_state(state):
+    """A state of its own with the same registers."""
+    fresh = State()
+    for weight in WEIGHTS:
+        put_component(fresh, weight, component_words(state, weight))
+    return fresh
+
+
 def has_components(components, needed):
     """Whether the components of a machine hold all the needed ones; both are sums of weights."""
     return (components & needed) == needed
